@@ -185,26 +185,50 @@ func TestTwoCouncils(t *testing.T) {
 	checkDecided(t, two, "b", 1, 2, 3)
 }
 
+// checkNobody holds that no node is honest and nothing is under way, whatever is done.
+func checkNobody(t *testing.T, c *council.Council) {
+	t.Helper()
+	for _, i := range append(anyInts(), 0, 1) {
+		if c.Deliver(i) || c.Lose(i) || c.Timeout(i, 1) || c.Timeout(1, i) {
+			t.Errorf("%d: true", i)
+		}
+		for kind := range 6 {
+			w := api.Word{Kind: kind, From: 4, Valid: -1, Value: "z"}
+			checkForge(t, c, i, w, false)
+			w.From = i
+			checkForge(t, c, 1, w, false)
+		}
+		if value, is := c.Decided(i); value != "" || is {
+			t.Errorf("node %d decided %q, %v", i, value, is)
+		}
+	}
+	checkWaiting(t, c, 0)
+	checkDecided(t, c, "")
+}
+
 // R1: a council that is nil has nobody and nothing under way, whatever is done to it.
 func TestNoCouncil(t *testing.T) {
 	var none *council.Council
-	for _, c := range []*council.Council{none, council.New(3, 1, 0, owns(2)), council.New(4, 1, 0, owns(2))} {
-		for _, i := range append(anyInts(), 0, 1) {
-			if c.Deliver(i) || c.Lose(i) || c.Timeout(i, 1) || c.Timeout(1, i) {
-				t.Errorf("%d: true", i)
-			}
-			for kind := range 6 {
-				w := api.Word{Kind: kind, From: 4, Valid: -1, Value: "z"}
-				checkForge(t, c, i, w, false)
-				w.From = i
-				checkForge(t, c, 1, w, false)
-			}
-			if value, is := c.Decided(i); value != "" || is {
-				t.Errorf("node %d decided %q, %v", i, value, is)
-			}
+	for _, c := range []*council.Council{none, council.New(3, 1, 0, owns(2)), council.New(4, 1, 0, owns(2)), council.New(0, 0, 0, nil), council.New(0, 0, 65, []string{})} {
+		if c != nil {
+			t.Error("there is a council")
 		}
-		checkWaiting(t, c, 0)
-		checkDecided(t, c, "")
+		checkNobody(t, c)
+	}
+}
+
+// 23.1, R3, R6: where n - t is 0 there is a council, since no honest node is nil and no values are as many, also where chapter 22's New would have no part. It has nobody and nothing under way.
+func TestNobodyHonest(t *testing.T) {
+	for _, n := range []int{1, 2, 3, 4, 5, 6, 7, 8, 9, 4096, math.MaxInt, -1, -2, -7, -4096, math.MinInt} {
+		for _, height := range []int{math.MinInt, -1, 0, 1, 64, 65, math.MaxInt} {
+			for _, values := range [][]string{nil, {}, owns(3)[:0]} {
+				checkNobody(t, made(t, n, n, height, values...))
+			}
+			// A value too many, and a node too few or too many among the honest ones.
+			checkNew(t, n, n, height, owns(1), false)
+			checkNew(t, n, n-1, height, nil, false)
+			checkNew(t, n-1, n, height, nil, false)
+		}
 	}
 }
 

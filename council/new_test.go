@@ -9,6 +9,9 @@ import (
 	"sandglass/council"
 )
 
+// noneHonest tells whether no node is honest, and there are as many values: 23.1's words have no bound on n. (Of n 0 the shared test of stage 23 holds that there is no council.)
+func noneHonest(n, wrong, count int) bool { return n != 0 && n == wrong && count == 0 }
+
 func checkNew(t *testing.T, n, wrong, height int, values []string, want bool) {
 	t.Helper()
 	if c := council.New(n, wrong, height, values); (c != nil) != want {
@@ -16,18 +19,18 @@ func checkNew(t *testing.T, n, wrong, height int, values []string, want bool) {
 	}
 }
 
-// 23.1: each n and t that have a council, with the heights at the edges, and with as many values as honest nodes; and those round about that have none.
+// 23.1: each n and t that have a council, with the heights at the edges, and with as many values as honest nodes; and those round about that have none. Where no node is honest none can be nil, so there is one whatever the height, with no value.
 func TestNew(t *testing.T) {
 	for n := -3; n <= 12; n++ {
-		for wrong := -3; wrong <= 5; wrong++ {
+		for wrong := -3; wrong <= 13; wrong++ {
 			is := slices.Contains(sizes(), size{n, wrong})
 			for count := range 16 {
 				for _, height := range []int{-2, -1, 0, 1, 5, 63, 64, 65, 66} {
-					checkNew(t, n, wrong, height, owns(count), is && count == n-wrong && height >= 0 && height <= 64)
+					checkNew(t, n, wrong, height, owns(count), is && count == n-wrong && height >= 0 && height <= 64 || noneHonest(n, wrong, count))
 				}
 			}
-			checkNew(t, n, wrong, 0, nil, false)
-			checkNew(t, n, wrong, 0, []string{}, false)
+			checkNew(t, n, wrong, 0, nil, noneHonest(n, wrong, 0))
+			checkNew(t, n, wrong, 0, []string{}, noneHonest(n, wrong, 0))
 		}
 	}
 	if api.MaxNodes != 7 || api.MaxFault != 2 || api.MaxHeight != 64 || api.MaxBody != 4096 {
@@ -44,21 +47,24 @@ func TestHeights(t *testing.T) {
 	}
 }
 
-// 23.1, R6: one number that is far off is enough for there being no council, also where n - t goes round and is as many as there are values.
+// 23.1, R6: one number that is far off is enough for there being no council, also where n - t goes round and is as many as there are values; but where no node is honest.
 func TestFarOff(t *testing.T) {
 	for _, k := range append(farInts(), math.MinInt, math.MaxInt) {
 		for count := range 9 {
 			l := owns(count)
 			checkNew(t, k, 0, 0, l, false)
 			checkNew(t, 7, k, 0, l, false)
-			checkNew(t, k, k, 0, l, false)
-			checkNew(t, k+count, k, 0, l, false)
-			checkNew(t, k, k-count, 0, l, false)
-			checkNew(t, count-k, -k, 0, l, false)
+			checkNew(t, k, k, 0, l, noneHonest(k, k, count))
+			checkNew(t, k+count, k, 0, l, noneHonest(k, k, count))
+			checkNew(t, k, k-count, 0, l, noneHonest(k, k, count))
+			checkNew(t, count-k, -k, 0, l, noneHonest(-k, -k, count))
 			checkNew(t, count, 0, k, l, false)
-			checkNew(t, k, k, k, l, false)
+			checkNew(t, k, k, k, l, noneHonest(k, k, count))
+			checkNew(t, 7, 7, k, l, count == 0)
 		}
 	}
+	checkNew(t, math.MinInt, math.MaxInt, 0, nil, false)
+	checkNew(t, math.MaxInt, math.MinInt, 0, nil, false)
 	checkNew(t, math.MinInt, math.MaxInt, 0, owns(1), false)
 	checkNew(t, math.MinInt+3, math.MaxInt, 0, owns(4), false)
 }
